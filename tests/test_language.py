@@ -1,6 +1,7 @@
 """Checks the rules of LANGUAGE.md that a look at single files and lines can check."""
 
 import ast
+import functools
 import pathlib
 import re
 import unittest
@@ -12,14 +13,33 @@ BUILTINS = (
     "ord repr any all divmod super map iter next ValueError KeyError"
 ).split()
 
+METHODS = (
+    "append clear copy count endswith extend find get index insert isalnum isalpha isdigit islower isspace isupper "
+    "items join keys ljust lower lstrip partition pop remove replace reverse rfind rjust rpartition rsplit rstrip "
+    "setdefault split splitlines startswith strip update upper values zfill bit_length add discard"
+).split()
+BARRED_NAMES = (
+    "register mro elements open input law version_info with_traceback add_note attrgetter breakpoint compile "
+    "copyright credits delattr dir eval exec exit gc globals help id importlib license locals methodcaller os quit "
+    "type vars sys _cold _tuplegetter _outside _record _written_out _member_names"
+).split()
+BARRED_WORDS = (
+    "type typing enum Enum Flag Generic Protocol ABC ABCMeta namedtuple NamedTuple TypedDict abstractmethod"
+).split()
+BARRED_BEGINNINGS = "_wall _pe_ _dcw_ _enum_ _cm_ _twin_re_ _lay_ _law_ _stub_ _sre _WallAttr".split()
+
 
 def files():
     return sorted(path for path in PACKAGE.rglob("*") if path.is_file() and "__pycache__" not in path.parts)
 
 
+@functools.lru_cache(maxsize=None)
+def tree_of(path):
+    return ast.parse(path.read_text(encoding="utf-8"))
+
+
 def nodes(path, *kinds):
-    tree = ast.parse(path.read_text(encoding="utf-8"))
-    return [node for node in ast.walk(tree) if isinstance(node, kinds)]
+    return [node for node in ast.walk(tree_of(path)) if isinstance(node, kinds)]
 
 
 class LanguageTest(unittest.TestCase):
@@ -59,6 +79,86 @@ class LanguageTest(unittest.TestCase):
             for name in nodes(path, ast.Name):
                 if hasattr(builtins, name.id):
                     self.assertIn(name.id, BUILTINS, path)
+
+    def bound_names(self, path):
+        """The names of functions, classes, parameters and variables."""
+        found = [node.name for node in nodes(path, ast.FunctionDef, ast.ClassDef)]
+        found += [node.arg for node in nodes(path, ast.arg)]
+        return found + [node.id for node in nodes(path, ast.Name) if isinstance(node.ctx, ast.Store)]
+
+    def test_names(self):
+        import builtins
+
+        for path in files():
+            imported = {name.name for line in nodes(path, ast.ImportFrom) for name in line.names}
+            classes = {node.name for node in nodes(path, ast.ClassDef)}
+            bound = self.bound_names(path)
+            self.assertEqual([name for name in bound if name in vars(builtins)], [], path)
+            self.assertEqual([name for name in bound if name in imported], [], path)
+            self.assertEqual([name for name in bound if name in classes and bound.count(name) > 1], [], path)
+            for name in bound:
+                self.assertRegex(name, r"^(_|_?[A-Za-z][A-Za-z0-9_]*|__(init|eq|repr|str|len)__)$", path)
+                self.assertNotIn(name, BARRED_NAMES, path)
+                self.assertFalse(name.startswith(tuple(BARRED_BEGINNINGS)), name)
+            self.assertEqual([name for name in classes if name.startswith("_")], [], path)
+
+    def test_attributes(self):
+        methods, attributes = set(), set()
+        for path in files():
+            for kind in nodes(path, ast.ClassDef):
+                methods |= {node.name for node in kind.body if isinstance(node, ast.FunctionDef)}
+            attributes |= {node.attr for node in nodes(path, ast.Attribute) if isinstance(node.ctx, ast.Store)}
+        self.assertEqual(sorted(methods & attributes), [])
+        # Names of builtin methods that change what they belong to may not be attributes, and are no own methods here.
+        self.assertEqual(sorted(attributes & set("items keys values pop update append clear insert sort".split())), [])
+        for path in files():
+            called = {id(node.func) for node in nodes(path, ast.Call)}
+            for node in nodes(path, ast.Attribute):
+                self.assertNotIn(node.attr, ("format", "format_map", *BARRED_NAMES[:9]), path)
+                if id(node) in called:
+                    self.assertIn(node.attr, methods | set(METHODS) | {"__init__"}, path)
+                else:
+                    self.assertIn(node.attr, attributes, path)
+
+    def test_words_in_strings(self):
+        for path in files():
+            docstrings = [node.body[0].value for node in nodes(path, ast.Module, ast.FunctionDef, ast.ClassDef)
+                          if ast.get_docstring(node) is not None]
+            for node in nodes(path, ast.Constant):
+                if isinstance(node.value, str) and node not in docstrings:
+                    self.assertEqual([word for word in BARRED_WORDS if re.search(rf"\b{word}\b", node.value)], [], path)
+
+    def test_sets_stand_only_where_they_may(self):
+        for path in files():
+            allowed = set()
+            for call in nodes(path, ast.Call):
+                if isinstance(call.func, ast.Name) and call.func.id in ("sorted", "len"):
+                    allowed |= {id(argument) for argument in call.args}
+            for line in nodes(path, ast.Assign):
+                if isinstance(line.targets[0], ast.Name):
+                    allowed.add(id(line.value))
+            for test in nodes(path, ast.Compare):
+                allowed |= {id(part) for part in test.comparators}
+            made = nodes(path, ast.Set, ast.SetComp)
+            made += [call for call in nodes(path, ast.Call) if isinstance(call.func, ast.Name) and call.func.id == "set"]
+            self.assertEqual([node.lineno for node in made if id(node) not in allowed], [], path)
+
+    def test_exponents_are_literal(self):
+        for path in files():
+            for node in nodes(path, ast.BinOp):
+                if isinstance(node.op, ast.Pow):
+                    self.assertIsInstance(node.right, ast.Constant, path)
+
+    def test_no_two_modules_import_from_each_other(self):
+        imports = {}
+        for path in files():
+            modules = [line.module for line in nodes(path, ast.ImportFrom)]
+            imports[path.stem] = {module.partition(".")[2] for module in modules if module.startswith("twoways.")}
+        while imports:
+            free = [name for name, others in imports.items() if not others & set(imports)]
+            self.assertNotEqual(free, [], imports)
+            for name in free:
+                del imports[name]
 
     def test_statements_that_are_not_used(self):
         barred = (ast.Global, ast.AsyncFunctionDef, ast.Await, ast.AsyncFor, ast.AsyncWith, ast.Div)

@@ -8,6 +8,7 @@ RIGHT_END = 1
 # The tape letters that stand for no letter of a word come first.
 END_MARKS = 2
 
+LONGEST_WORD = 200
 MOST_LETTERS = 3
 MOST_STATES = 4
 MOST_LOOK_VALUES = 6

@@ -1,0 +1,49 @@
+"""The names and arguments that the document's interface lists, as far as they have landed."""
+
+import ast
+import importlib
+import inspect
+import pathlib
+import unittest
+
+PACKAGE = pathlib.Path(__file__).resolve().parent.parent / "twoways"
+
+FUNCTIONS = {
+    "tapes": {"tape_of": ["word"], "word_of": ["tape"], "fault_of": ["machine"]},
+    "notation": {
+        "format_word": ["word"], "parse_word": ["letters", "text"], "format_machine": ["machine"],
+        "parse_machine": ["text"],
+    },
+    "readers": {"fault": ["count", "reader"], "value": ["reader", "word"], "accepts": ["reader", "word"]},
+    "values": {
+        "values": ["reader", "most"], "numbered": ["reader"], "denied": ["reader"],
+        "joint": ["kind", "first", "second"], "least": ["reader"], "same_words": ["first", "second"],
+        "shortest": ["reader"],
+    },
+    "meaning": {
+        "is_valid": ["count", "sentence"], "depth_of": ["sentence"], "size_of": ["sentence"],
+        "holds": ["sentence", "row", "sets"],
+    },
+}
+
+
+class InterfaceTest(unittest.TestCase):
+    def test_functions_and_their_arguments(self):
+        for module, functions in FUNCTIONS.items():
+            found = importlib.import_module("twoways." + module)
+            for name, arguments in functions.items():
+                parameters = inspect.signature(getattr(found, name)).parameters.values()
+                self.assertEqual([parameter.name for parameter in parameters], arguments, name)
+                for parameter in parameters:
+                    self.assertIs(parameter.default, parameter.empty)
+                    self.assertIs(parameter.kind, parameter.POSITIONAL_OR_KEYWORD)
+
+    def test_defined_where_they_are_listed(self):
+        for module, functions in FUNCTIONS.items():
+            tree = ast.parse((PACKAGE / (module + ".py")).read_text(encoding="utf-8"))
+            defined = [node.name for node in tree.body if isinstance(node, ast.FunctionDef)]
+            self.assertLessEqual(set(functions), set(defined), module)
+
+
+if __name__ == "__main__":
+    unittest.main()
