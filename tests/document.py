@@ -125,3 +125,172 @@ def line_says(sentence, at, row, sets):
 
 def sentence_says(sentence, row, sets):
     return line_says(sentence, len(sentence) - 1, row, sets)
+
+
+# Point 21.
+
+def line_reader(count, sentence, at, sets):
+    """The least reader of a line about the row."""
+    wide = wide_line_reader(count, sentence, at, sets)
+    return None if wide is None else least_reader(wide)
+
+
+def wide_line_reader(count, sentence, at, sets):
+    """The reader of a line about the row before it is made least; None if it has too many values."""
+    name, *members = sentence[at]
+    marked_letters = [(letter, code) for letter in range(count) for code in range(2 ** sets)]
+
+    def truths(part):
+        return [
+            place_says(sentence, part, [letter], [[0] if code // 2 ** i % 2 else [] for i in range(sets)], 0)
+            for letter, code in marked_letters
+        ]
+
+    def from_places():
+        first = truths(members[0])
+        if name == "all":
+            return True, first, lambda x, y: x and y, lambda x: x
+        if name == "first":
+            return "none", first, lambda x, y: x if x != "none" else y, lambda x: x in ("none", True)
+        if name == "last":
+            return "none", first, lambda x, y: y if y != "none" else x, lambda x: x in ("none", True)
+        pairs = list(zip(truths(members[1]), first))
+        return "none", pairs, next_to, lambda x: x != "broken"
+
+    def next_to(x, y):
+        if "none" in (x, y):
+            return x if y == "none" else y
+        if "broken" in (x, y) or (x[1] and not y[0]):
+            return "broken"
+        return (x[0], y[1])
+
+    if name in ("all", "first", "last", "next"):
+        return reader_of_any_values(*from_places())
+    if name == "nothing":
+        return reader_of_any_values(True, [False] * len(marked_letters), lambda x, y: x and y, lambda x: x)
+    if name == "one":
+        counts = [code // 2 ** members[0] % 2 if members[0] < sets else 0 for _, code in marked_letters]
+        return reader_of_any_values(0, counts, lambda x, y: min(2, x + y), lambda x: x == 1)
+    inner = [line_reader(count, sentence, part, sets + (name == "there")) for part in members]
+    if None in inner:
+        return None
+    if name == "denied":
+        empty, letters, mul, accepted = inner[0]
+        return (empty, letters, mul, tuple(x for x in range(len(mul)) if x not in accepted))
+    if name == "both":
+        first, second = inner
+        return reader_of_any_values(
+            (first[0], second[0]),
+            list(zip(first[1], second[1])),
+            lambda x, y: (first[2][x[0]][y[0]], second[2][x[1]][y[1]]),
+            lambda x: x[0] in first[3] and x[1] in second[3],
+        )
+    empty, letters, mul, accepted = inner[0]
+    with_one_more = {}
+    for number, (letter, code) in enumerate(itertools.product(range(count), range(2 ** (sets + 1)))):
+        with_one_more[letter, code] = letters[number]
+    return reader_of_any_values(
+        frozenset([empty]),
+        [frozenset([with_one_more[letter, code], with_one_more[letter, code + 2 ** sets]])
+         for letter, code in marked_letters],
+        lambda x, y: frozenset(mul[a][b] for a in x for b in y),
+        lambda x: any(a in accepted for a in x),
+    )
+
+
+# Point 23. A part is a tuple of a name and parts or integers.
+
+def laid(part):
+    """The lines of a part: those of each part in it, and then its own."""
+    lines = []
+
+    def lay(part):
+        numbers = [lay(inner) if isinstance(inner, tuple) else inner for inner in part[1:]]
+        lines.append((part[0], *numbers))
+        return len(lines) - 1
+
+    lay(part)
+    return tuple(lines)
+
+
+YES = ("not", ("and", ("set", 0), ("not", ("set", 0))))
+
+
+def every(parts):
+    return ("and", parts[0], every(parts[1:])) if parts else YES
+
+
+def some(parts):
+    return ("not", ("and", ("not", parts[0]), ("not", some(parts[1:])))) if parts else ("not", YES)
+
+
+def implied(condition, consequence):
+    return ("not", ("and", condition, ("not", consequence)))
+
+
+def walk_part(count, sets, reader):
+    empty, letters, mul, accepted = reader
+    values = range(len(mul))
+    codes = 2 ** sets
+
+    def is_marked(letter, code):
+        marks = [("set", i) if code // 2 ** i % 2 else ("not", ("set", i)) for i in range(sets)]
+        return ("and", ("letter", letter), every(marks))
+
+    def behind(u):
+        return every([
+            implied(is_marked(letter, code), ("set", sets + mul[u][letters[letter * codes + code]]))
+            for letter in range(count) for code in range(codes)
+        ])
+
+    def apart(v, w):
+        return YES if v == w else implied(("set", sets + v), ("not", ("set", sets + w)))
+
+    parts = [
+        ("all", every([apart(v, w) for v in values for w in values])),
+        ("first", behind(empty)),
+        ("last", some([("set", sets + v) for v in accepted])),
+    ]
+    parts += [("next", ("set", sets + u), behind(u)) for u in values]
+    walk = ("all", YES)
+    for part in reversed(parts):
+        walk = ("both", part, walk)
+    return walk
+
+
+def sentence_part(count, sets, reader):
+    inside = walk_part(count, sets, reader)
+    for _ in reader[2]:
+        inside = ("there", inside)
+    if reader[0] in reader[3]:
+        return ("denied", ("both", ("denied", ("nothing",)), ("denied", inside)))
+    return ("both", ("denied", ("nothing",)), inside)
+
+
+# Points 24 and 25.
+
+def run_by_steps(machine, row):
+    _, states, (empty, letters, mul, _), _, _, steps = machine
+
+    def worth(part):
+        reached = empty
+        for letter in part:
+            reached = mul[reached][letters[letter]]
+        return reached
+
+    place, state, written, origins = 0, 0, [], []
+    # More steps than there are pairs of a place and a state: the run goes round for ever.
+    for _ in range(len(row) * states + 1):
+        if not 0 <= place < len(row):
+            return None
+        sight = (state, worth(row[:place]), row[place], worth(row[place + 1:]))
+        found = [step for step in steps if step[:4] == sight]
+        if not found:
+            return None
+        move, after, piece = found[0][4:]
+        written += piece
+        origins += [(place, state, index) for index in range(len(piece))]
+        if move == "stop":
+            return (written, origins)
+        place, state = place + {"left": -1, "right": 1}[move], after
+    return None

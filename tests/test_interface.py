@@ -24,6 +24,16 @@ FUNCTIONS = {
         "is_valid": ["count", "sentence"], "depth_of": ["sentence"], "size_of": ["sentence"],
         "holds": ["sentence", "row", "sets"],
     },
+    "marked": {"width": ["sets"], "marked": ["row", "sets"]},
+    "sentences": {
+        "reader_with": ["count", "sentence", "given"], "sentence_reader": ["count", "sentence"],
+        "made_plan": ["written"],
+    },
+    "walks": {
+        "walk_for": ["count", "sets", "reader"], "sentence_for": ["count", "sets", "reader"],
+        "sets_for": ["count", "sets", "reader", "word"],
+    },
+    "runs": {"run": ["machine", "word"], "run_on": ["machine", "row"]},
 }
 
 
