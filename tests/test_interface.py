@@ -34,6 +34,18 @@ FUNCTIONS = {
         "sets_for": ["count", "sets", "reader", "word"],
     },
     "runs": {"run": ["machine", "word"], "run_on": ["machine", "row"]},
+    "plans": {
+        "planned": ["plan", "word"], "told_by": ["written_plan", "word"], "through": ["first", "second", "word"],
+    },
+    "stretches": {
+        "deed": ["machine", "row", "left", "right", "side", "state"], "letter_stretch": ["machine", "letter"],
+        "empty_stretch": ["machine"], "joined": ["machine", "first", "second"], "stretch_of": ["machine", "row"],
+        "written_by": ["machine", "stretch"],
+    },
+    "moves": {
+        "moved": ["reader", "sets", "numbers", "count"], "some": ["reader", "sets"],
+        "is_left": ["count", "first", "second", "sets"],
+    },
 }
 
 

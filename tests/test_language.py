@@ -42,6 +42,13 @@ def nodes(path, *kinds):
     return [node for node in ast.walk(tree_of(path)) if isinstance(node, kinds)]
 
 
+def joined_sets(node):
+    """The sets that are written in a place where they may be joined with one another."""
+    if isinstance(node, ast.BinOp) and isinstance(node.op, (ast.Sub, ast.BitAnd, ast.BitOr, ast.BitXor)):
+        return joined_sets(node.left) + joined_sets(node.right)
+    return [node]
+
+
 class LanguageTest(unittest.TestCase):
     def test_plain_files(self):
         for path in files():
@@ -133,7 +140,7 @@ class LanguageTest(unittest.TestCase):
             allowed = set()
             for call in nodes(path, ast.Call):
                 if isinstance(call.func, ast.Name) and call.func.id in ("sorted", "len"):
-                    allowed |= {id(argument) for argument in call.args}
+                    allowed |= {id(part) for argument in call.args for part in joined_sets(argument)}
             for line in nodes(path, ast.Assign):
                 if isinstance(line.targets[0], ast.Name):
                     allowed.add(id(line.value))

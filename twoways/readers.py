@@ -32,6 +32,28 @@ def accepts(reader, word):
     return value(reader, word) in reader[3]
 
 
+def values_to_the_left(reader, row, left):
+    """Return for each place of a row the value of the letters to its left, behind a left value."""
+    _, letters, mul, _ = reader
+    reached = left
+    found = []
+    for letter in row:
+        found.append(reached)
+        reached = mul[reached][letters[letter]]
+    return found
+
+
+def values_to_the_right(reader, row, right):
+    """Return for each place of a row the value of the letters to its right, in front of a right value."""
+    _, letters, mul, _ = reader
+    reached = right
+    found = []
+    for letter in row[::-1]:
+        found.append(reached)
+        reached = mul[letters[letter]][reached]
+    return found[::-1]
+
+
 def _member_fault(count, reader):
     """Return the first fault of the members that can be seen without multiplying, or None."""
     empty, letters, mul, accepted = reader

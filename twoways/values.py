@@ -35,18 +35,39 @@ def numbered(reader):
     )
 
 
-def reader_from(empty, letters, product, accepting):
+def reader_from(empty, letters, product, accepting, most=MOST_VALUES):
     """Return the numbered reader of values of any kind.
 
     `empty` is the value of the empty word, `letters` a list with the value of each letter, `product` a function
     of two values, and `accepting` one that tells whether a value is accepted. It must make no difference in
-    which order three values are multiplied. Raises TooManyValues.
+    which order three values are multiplied. Raises TooManyValues if there are more than `most`.
     """
-    found, behind, origins = _reached(empty, _distinct(letters), product)
+    found, behind, origins = _reached(empty, _distinct(letters), product, most)
     position = {x: at for at, x in enumerate(found)}
     accepted = [at for at, x in enumerate(found) if accepting(x)]
     letter_values = [position[x] for x in letters]
     return numbered((0, tuple(letter_values), _table(behind, origins), tuple(accepted)))
+
+
+def least_from(empty, letters, product, accepting, wide=MOST_VALUES, most=MOST_VALUES):
+    """Return the least reader of values of any kind, which are told as in `reader_from`.
+
+    Raises TooManyValues if there are more than `wide`, or if the least reader has more than `most`.
+    """
+    kinds = _distinct(letters)
+    found, behind, origins = _reached(empty, kinds, product, wide)
+    accepted = [bool(accepting(x)) for x in found]
+    leaders = _leaders(accepted, behind, origins)
+    leader_of = {letter: leaders[after] for letter, after in zip(kinds, behind[0])}
+    # Of several letters that are alike any one serves, since what they are multiplied to is alike, too.
+    column = {leaders[after]: at for at, after in enumerate(behind[0])}
+    return reader_from(
+        leaders[0],
+        [leader_of[letter] for letter in letters],
+        lambda x, y: leaders[behind[x][column[y]]],
+        lambda x: accepted[x],
+        most,
+    )
 
 
 def denied(reader):
@@ -74,14 +95,9 @@ def joint(kind, first, second):
 
 def least(reader):
     """Return the least reader that accepts the same words."""
-    empty, letters, mul, accepted = numbered(reader)
-    leaders = _leaders(letters, mul, accepted)
-    return numbered((
-        leaders[empty],
-        tuple([leaders[x] for x in letters]),
-        tuple([tuple([leaders[x] for x in row]) for row in mul]),
-        accepted,
-    ))
+    empty, letters, mul, accepted = reader
+    many = len(mul)
+    return least_from(empty, letters, lambda x, y: mul[x][y], lambda x: x in accepted, many, many)
 
 
 def same_words(first, second):
@@ -118,7 +134,7 @@ def _products(mul, found, before):
     return products
 
 
-def _reached(empty, letters, product):
+def _reached(empty, letters, product, most):
     """Return all values of words, and for each one its products with the letters and where it comes from.
 
     What a value comes from is a value before it and a letter; the first one, of the empty word, has None.
@@ -135,8 +151,8 @@ def _reached(empty, letters, product):
                 position[after] = len(found)
                 found.append(after)
                 origins.append((at, letter))
-        if len(found) > MOST_VALUES:
-            raise TooManyValues(f"a reader would have more than {MOST_VALUES} values")
+        if len(found) > most:
+            raise TooManyValues(f"a reader would have more than {most} values")
         behind.append([position[after] for after in products])
     return (found, behind, origins)
 
@@ -153,23 +169,24 @@ def _table(behind, origins):
     return tuple(rows)
 
 
-def _leaders(letters, mul, accepted):
-    """Return for each value of a numbered reader the lowest value that is alike to it."""
+def _leaders(accepted, behind, origins):
+    """Return for each value that `_reached` returns the lowest value that is alike to it."""
     # Each value is a product of letters, so that letters in front and behind tell all values apart.
-    kinds = _distinct(letters)
-    leaders = _firsts([x in accepted for x in range(len(mul))])
+    neighbours = [x + y for x, y in zip(behind, _in_front(behind, origins))]
+    leaders = _firsts(accepted)
     before = []
     while leaders != before:
         before = leaders
-        leaders = _firsts([_sight(kinds, mul, before, x) for x in range(len(mul))])
+        leaders = _firsts([(before[x], *[before[y] for y in near]) for x, near in enumerate(neighbours)])
     return leaders
 
 
-def _sight(letters, mul, leaders, x):
-    """Return the leaders of a value itself and behind and in front of each letter."""
-    in_front = [leaders[mul[letter][x]] for letter in letters]
-    behind = [leaders[mul[x][letter]] for letter in letters]
-    return (leaders[x], *in_front, *behind)
+def _in_front(behind, origins):
+    """Return for each value that `_reached` returns its products with the letters in front of it."""
+    found = [behind[0]]
+    for before, letter in origins[1:]:
+        found.append([behind[x][letter] for x in found[before]])
+    return found
 
 
 def _firsts(things):
