@@ -46,6 +46,15 @@ FUNCTIONS = {
         "moved": ["reader", "sets", "numbers", "count"], "some": ["reader", "sets"],
         "is_left": ["count", "first", "second", "sets"],
     },
+    "plan_of": {"plan_for": ["machine"]},
+    "machine_of": {"tests_of": ["plan"], "machine_for": ["plan"]},
+    "order": {"ordered": ["plan"]},
+}
+
+METHODS = {
+    "__init__": ["self", "machine", "word"], "insert": ["self", "at", "word"], "remove": ["self", "at", "many"],
+    "undo": ["self"], "redo": ["self"], "word": ["self"], "written": ["self"], "made": ["self"], "height": ["self"],
+    "edits": ["self"], "undone": ["self"],
 }
 
 
@@ -65,6 +74,15 @@ class InterfaceTest(unittest.TestCase):
             tree = ast.parse((PACKAGE / (module + ".py")).read_text(encoding="utf-8"))
             defined = [node.name for node in tree.body if isinstance(node, ast.FunctionDef)]
             self.assertLessEqual(set(functions), set(defined), module)
+
+    def test_edited_words(self):
+        tree = ast.parse((PACKAGE / "edited.py").read_text(encoding="utf-8"))
+        classes = [node for node in tree.body if isinstance(node, ast.ClassDef) and node.name == "EditedWord"]
+        self.assertEqual(len(classes), 1)
+        found = {node.name: node.args for node in classes[0].body if isinstance(node, ast.FunctionDef)}
+        for name, arguments in METHODS.items():
+            self.assertEqual([argument.arg for argument in found[name].args], arguments, name)
+            self.assertEqual((found[name].defaults, found[name].kwonlyargs), ([], []), name)
 
 
 if __name__ == "__main__":

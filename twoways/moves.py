@@ -1,6 +1,7 @@
 """Readers of tapes with other sets, or with one set less, and whether a place is to the left of another one."""
 
 from twoways.marked import width
+from twoways.readers import MOST_VALUES
 from twoways.values import least, least_from
 
 # What a stretch has of the two places of which one is to be to the left of the other one.
@@ -22,7 +23,15 @@ def moved(reader, sets, numbers, count):
 
 
 def some(reader, sets):
-    """Return the least reader that accepts if the given one does with some place alone in the last set."""
+    """Return the least reader that accepts if the given one does with some place alone in the last set.
+
+    Raises TooManyValues.
+    """
+    return some_place(reader, sets, MOST_VALUES)
+
+
+def some_place(reader, sets, wide):
+    """Return what `some` returns, where before it is made least it may have so many values."""
     empty, letters, mul, accepted = reader
 
     def product(x, y):
@@ -37,7 +46,7 @@ def some(reader, sets):
     for first in range(0, len(letters), 2 * codes):
         for outside in range(first, first + codes):
             pairs.append((letters[outside], (letters[outside + codes],)))
-    return least_from((empty, ()), pairs, product, accepting)
+    return least_from((empty, ()), pairs, product, accepting, wide)
 
 
 def is_left(count, first, second, sets):

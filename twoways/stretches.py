@@ -33,22 +33,16 @@ def empty_stretch(machine):
     """Return the kept stretch of the empty stretch."""
     deeds = {}
     for left, right, side, state in entrances(machine):
-        deeds[(left, right, side, state)] = (OUT, other_side(side), state, ())
+        deeds[(left, right, side, state)] = (OUT, _other_side(side), state, ())
     return (machine[2][0], deeds)
 
 
 def joined(machine, first, second):
     """Return the kept stretch of two kept stretches, one after the other."""
-    first_value, first_deeds = first
-    second_value, second_deeds = second
-    mul = machine[2][2]
-    both = (first_deeds, second_deeds)
     deeds = {}
-    for left, right, side, state in entrances(machine):
-        around = ((left, mul[second_value][right]), (mul[left][first_value], right))
-        passed = passage(both, around, side, state)
-        deeds[(left, right, side, state)] = None if passed is None else _deed_along(passed)
-    return (mul[first_value][second_value], deeds)
+    for entrance, passed in zip(entrances(machine), passages(machine, first, second)):
+        deeds[entrance] = None if passed is None else _deed_along(passed)
+    return (machine[2][2][first[0]][second[0]], deeds)
 
 
 def stretch_of(machine, row):
@@ -79,17 +73,28 @@ def entrances(machine):
     ]
 
 
-def other_side(side):
+def passages(machine, first, second):
+    """Return for each entrance, in order, how the machine passes through two kept stretches, one after the other.
+
+    This is None if it never leaves or stops; otherwise it is a list with, for each of the two that is entered, which
+    of them it is, 0 or 1, the entrance and the deed there.
+    """
+    mul = machine[2][2]
+    both = (first[1], second[1])
+    found = []
+    for left, right, side, state in entrances(machine):
+        around = ((left, mul[second[0]][right]), (mul[left][first[0]], right))
+        found.append(_passage(both, around, side, state))
+    return found
+
+
+def _other_side(side):
     """Return the side that is not this one."""
     return RIGHT if side == LEFT else LEFT
 
 
-def passage(both, around, side, state):
-    """Return how the machine passes through two stretches that it enters on a side in a state, or None.
-
-    `both` are the deeds in each of the two, and `around` the left value and the right value for each of them. Each
-    member of the list is which of the two is entered, 0 or 1, and the entrance and the deed there.
-    """
+def _passage(both, around, side, state):
+    """Return one of the passages, by the deeds in both stretches and the left and right values of both."""
     at = 0 if side == LEFT else 1
     passed = []
     entered = set()
