@@ -33,15 +33,17 @@ ALL_BUT_ONE = (1, 1, (0, (0, 0, 1), keeping_first(2), ()), 1, (1,), (
     (0, 0, 2, 0, "right", 0, ()), (0, 0, 2, 1, "right", 0, ()), (0, 1, 1, 0, "stop", 0, ()),
     (0, 1, 2, 0, "right", 0, (1,)), (0, 1, 2, 1, "right", 0, (1,)),
 ))
-# The values of the readers of the plan, before they are made least, are just 300 at most, and just 301.
-WITH_300_VALUES = (1, 2, blind(1), 1, (0,), (
-    (0, 0, 0, 0, "left", 1, (0,)), (0, 0, 2, 0, "stop", 0, (0,)), (1, 0, 0, 0, "right", 0, ()),
-    (1, 0, 1, 0, "right", 1, ()),
-))
-WITH_301_VALUES = (1, 2, blind(1), 1, (0,), (
-    (0, 0, 0, 0, "right", 0, (0,)), (0, 0, 1, 0, "left", 0, (0,)), (0, 0, 2, 0, "right", 1, ()),
-    (1, 0, 0, 0, "right", 0, ()), (1, 0, 2, 0, "right", 0, (0,)),
-))
+# Machines with the greatest number of values that a reader of the plan has before it is made least.
+AROUND_300_VALUES = [((1, 2, blind(1), 1, (0,), steps), values) for values, steps in (
+    (298, ((0, 0, 0, 0, "right", 1, (0,)), (0, 0, 1, 0, "right", 0, (0,)), (0, 0, 2, 0, "left", 1, (0,)),
+           (1, 0, 0, 0, "right", 1, (0,)), (1, 0, 1, 0, "right", 0, ()), (1, 0, 2, 0, "right", 0, ()))),
+    (300, ((0, 0, 0, 0, "left", 1, (0,)), (0, 0, 2, 0, "stop", 0, (0,)), (1, 0, 0, 0, "right", 0, ()),
+           (1, 0, 1, 0, "right", 1, ()))),
+    (301, ((0, 0, 0, 0, "right", 0, (0,)), (0, 0, 1, 0, "left", 0, (0,)), (0, 0, 2, 0, "right", 1, ()),
+           (1, 0, 0, 0, "right", 0, ()), (1, 0, 2, 0, "right", 0, (0,)))),
+    (302, ((0, 0, 0, 0, "stop", 0, ()), (0, 0, 1, 0, "left", 0, ()), (0, 0, 2, 0, "stop", 0, (0,)),
+           (1, 0, 0, 0, "left", 0, ()), (1, 0, 1, 0, "right", 0, ()), (1, 0, 2, 0, "right", 1, (0,)))),
+)]
 
 
 def small_looks(letters):

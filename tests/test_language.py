@@ -151,6 +151,50 @@ class LanguageTest(unittest.TestCase):
             made += [call for call in nodes(path, ast.Call) if isinstance(call.func, ast.Name) and call.func.id == "set"]
             self.assertEqual([node.lineno for node in made if id(node) not in allowed], [], path)
 
+    def test_ranges_and_the_like_are_not_stored(self):
+        views = ("range", "zip", "enumerate", "reversed", "map")
+        for path in files():
+            for line in nodes(path, ast.Assign):
+                call = line.value
+                if isinstance(call, ast.Call) and isinstance(call.func, ast.Name) and call.func.id in views:
+                    self.assertIsInstance(line.targets[0], ast.Name, (path, line.lineno))
+            for line in nodes(path, ast.Return):
+                call = line.value
+                if isinstance(call, ast.Call) and isinstance(call.func, ast.Name):
+                    self.assertNotIn(call.func.id, views, (path, line.lineno))
+
+    def test_beginnings_of_objects_return_nothing(self):
+        for path in files():
+            for function in nodes(path, ast.FunctionDef):
+                if function.name == "__init__":
+                    inner = [node for node in ast.walk(function) if isinstance(node, (ast.Return, ast.Lambda))]
+                    self.assertEqual(inner, [], path)
+
+    def test_attributes_are_assigned_through_local_names(self):
+        for path in files():
+            for node in nodes(path, ast.Attribute):
+                if isinstance(node.ctx, (ast.Store, ast.Del)):
+                    self.assertIsInstance(node.value, ast.Name, (path, node.lineno))
+
+    def test_lambdas(self):
+        for path in files():
+            lines = [node.lineno for node in nodes(path, ast.Lambda)]
+            self.assertEqual(len(lines), len(set(lines)), path)
+            for call in nodes(path, ast.Call):
+                functions = [tuple(argument.arg for argument in part.args.args) for part in call.args
+                             if isinstance(part, ast.Lambda)]
+                self.assertEqual(len(functions), len(set(functions)), path)
+
+    def test_stars_stand_before_names(self):
+        for path in files():
+            for call in nodes(path, ast.Call):
+                for part in call.args:
+                    if isinstance(part, ast.Starred):
+                        self.assertIsInstance(part.value, (ast.Name, ast.Attribute), (path, part.lineno))
+            for node in nodes(path, ast.Subscript):
+                inner = [part for part in ast.walk(node.slice) if isinstance(part, ast.Starred)]
+                self.assertEqual(inner, [], (path, node.lineno))
+
     def test_exponents_are_literal(self):
         for path in files():
             for node in nodes(path, ast.BinOp):

@@ -329,6 +329,10 @@ class MachineForTest(unittest.TestCase):
             domain = (0, (1,) * 4, counting(1, many)[2], tuple(range(accepted)))
             with self.assertRaises(TooManySteps):
                 machine_for((2, (), domain, (), ()))
+        # 59 of 113 values, and three letters: one step too many.
+        self.assertEqual(59 * 113 * 3, 20001)
+        with self.assertRaises(TooManySteps):
+            machine_for((1, (), circle(113, tuple(range(59))), (), ()))
 
     def test_stretches_of_the_machine(self):
         machine = machine_for(made_plan(plan_examples.TURNED_PLAN))

@@ -9,7 +9,7 @@ from examples import some_numbers, some_readers
 from machine_examples import few_copies
 from plan_examples import INNER, IS_LEFT, IS_NEXT, IS_RIGHT, IS_SAME, NEVER, both, either, some_plans, written_plan
 from sentence_examples import rows_of
-from test_machine_of import TOO_LARGE_RELATION, circle, small_plans
+from test_machine_of import TOO_LARGE_RELATION, circle, plans_of_one_copy, small_plans
 from test_runs import COPY
 from twoways.errors import TooManyValues
 from twoways.moves import moved, some
@@ -130,8 +130,17 @@ class OrderedTest(unittest.TestCase):
             self.assertIsNone(self.assert_ordered(plan, 4))
 
     def test_without_copies(self):
-        for domain in some_readers(4):
+        for domain in some_readers(4) + [(0, (1,) * 4, circle(many, (1,))[2], (0, 3)) for many in (50, 300)]:
             self.assertIsNone(ordered((2, (), domain, (), ())))
+
+    def test_named_plans_of_one_copy(self):
+        kinds = {}
+        for plan in plans_of_one_copy():
+            word = self.assert_ordered(plan, 2)
+            kind = None if word is None else len(word)
+            kinds[kind] = kinds.get(kind, 0) + 1
+        # Only those whose ahead reader accepts nothing, and of which two places may stand, are not in order.
+        self.assertEqual(set(kinds), {None, 0, 1, 2})
 
     def test_two_places(self):
         self.assertEqual(self.assert_ordered(made_plan(plan_examples.NEITHER_AHEAD), 4), [0, 0])

@@ -5,8 +5,7 @@ import unittest
 from document_plans import accepted_by_watching, many_stretch_values, with_sets
 from examples import changed, counting
 from machine_examples import (
-    ALL_BUT_ONE, AT_ONCE, BACKWARDS, NEVER_STOPS, NO_STEPS, SILENT, TO_THE_END, WITH_300_VALUES, WITH_301_VALUES,
-    small_machines,
+    ALL_BUT_ONE, AROUND_300_VALUES, AT_ONCE, BACKWARDS, NEVER_STOPS, NO_STEPS, SILENT, TO_THE_END, small_machines,
 )
 from sentence_examples import choices_of_sets, rows_of
 from test_runs import COPY, TURN_ROUND, TWICE, blind, machine_of
@@ -182,13 +181,15 @@ class PlanForTest(unittest.TestCase):
         self.assertGreater(min(compared.values()), 3)
 
     def test_300_values_and_301(self):
-        for machine, expected in ((WITH_300_VALUES, 300), (WITH_301_VALUES, 301)):
+        for machine, expected in AROUND_300_VALUES:
             pairs = itertools.product(range(2), repeat=2)
             watched = [[], [0], [1], *map(list, pairs)]
             self.assertEqual(max(many_stretch_values(machine, one, 400) for one in watched), expected)
-        self.assert_plan(WITH_300_VALUES, plan_for(WITH_300_VALUES), 5)
-        with self.assertRaises(TooManyValues):
-            plan_for(WITH_301_VALUES)
+            if expected <= 300:
+                self.assert_plan(machine, plan_for(machine), 5)
+            else:
+                with self.assertRaises(TooManyValues):
+                    plan_for(machine)
 
     def test_arguments_stay(self):
         machine = copy.deepcopy(TO_THE_END)

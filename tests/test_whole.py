@@ -6,7 +6,7 @@ import unittest
 import plan_examples
 from document_plans import tape
 from examples import some_numbers
-from machine_examples import ALL_BUT_ONE, AT_ONCE, SILENT, TO_THE_END, WITH_300_VALUES, small_machines
+from machine_examples import ALL_BUT_ONE, AT_ONCE, SILENT, TO_THE_END, small_machines
 from sentence_examples import rows_of
 from test_edited import raised
 from test_runs import COPY
@@ -28,7 +28,7 @@ def letters_of(told):
 
 class WholeTest(unittest.TestCase):
     def test_all_ways_write_the_same_while_a_word_is_edited(self):
-        for seed, machine in enumerate((COPY, ALL_BUT_ONE, TO_THE_END, SILENT, AT_ONCE, WITH_300_VALUES)):
+        for seed, machine in enumerate((COPY, ALL_BUT_ONE, TO_THE_END, SILENT, AT_ONCE)):
             plan = plan_for(machine)
             numbers = iter(some_numbers(seed, 400, 1 << 20))
             edited = EditedWord(machine, [])

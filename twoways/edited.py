@@ -102,7 +102,7 @@ class EditedWord:
         """Begin an edit in which nothing but the number of edits can be wrong."""
         if len(self.earlier) == MOST_EDITS:
             raise TooManyEdits(f"there are {MOST_EDITS} edits that can be undone")
-        self.maker.pairs = 0
+        self.maker.begin_count()
 
     def end_edit(self, tree):
         """End an edit that gives a tree."""

@@ -21,7 +21,7 @@ class Facts:
     def __init__(self, plan):
         letters, copies, domain, place, ahead = plan
         self.count = letters + END_MARKS
-        self.copies = range(len(copies))
+        self.copies = list(range(len(copies)))
         self.domain = least(domain)
         one_place = reader_with(self.count, ONE_PLACE, 1)
         two_places = reader_with(self.count, TWO_PLACES, 2)

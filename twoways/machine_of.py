@@ -55,32 +55,12 @@ class Sight:
     def __init__(self, copies, count, tests):
         self.copies = copies
         self.count = count
-        rows = [test[2] for test in tests]
+        reader, told = _sight_from(tests)
+        self.letters = reader[1]
+        self.mul = reader[2]
         accepted = [test[3] for test in tests]
-
-        def product(x, y):
-            return tuple([mul[a][b] for mul, a, b in zip(rows, x, y)])
-
-        empty = tuple([test[0] for test in tests])
-        letter_values = [test[1] for test in tests]
-        letters = list(zip(*letter_values))
-        _, self.letters, self.mul, _ = reader_from(empty, letters, product, _is_never_accepted)
-        told = self.told_values(empty, letters, product)
         # For each value whether it passes each of the tests.
-        self.passed = [[a in some for a, some in zip(told[x], accepted)] for x in range(len(self.mul))]
-
-    def told_values(self, empty, letters, product):
-        """Return the values of all tests for each value, a dictionary."""
-        told = {0: empty}
-        waiting = [0]
-        while len(waiting) > 0:
-            x = waiting.pop()
-            for step, letter in zip(self.letters, letters):
-                after = self.mul[x][step]
-                if after not in told:
-                    told[after] = product(told[x], letter)
-                    waiting.append(after)
-        return told
+        self.passed = [[x in some for x, some in zip(row, accepted)] for row in told]
 
     def many_values(self):
         """Return the number of values."""
@@ -208,6 +188,29 @@ class Steps:
         if e is not None:
             return (LEFT, self.states[(LEFT, c, e, sight.after(mark, v))], piece)
         return (STOP, 0, piece)
+
+
+def _sight_from(tests):
+    """Return the reader of the values of all tests, and for each of its values the list of these."""
+    rows = [test[2] for test in tests]
+
+    def product(x, y):
+        return tuple([mul[one][other] for mul, one, other in zip(rows, x, y)])
+
+    empty = tuple([test[0] for test in tests])
+    letter_values = [test[1] for test in tests]
+    letters = list(zip(*letter_values))
+    reader = reader_from(empty, letters, product, _is_never_accepted)
+    told = {0: empty}
+    waiting = [0]
+    while len(waiting) > 0:
+        at = waiting.pop()
+        for value, letter in zip(reader[1], letters):
+            after = reader[2][at][value]
+            if after not in told:
+                told[after] = product(told[at], letter)
+                waiting.append(after)
+    return (reader, [told[at] for at in range(len(reader[2]))])
 
 
 def _is_never_accepted(_):

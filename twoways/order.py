@@ -21,12 +21,12 @@ def ordered(plan):
     Raises TooManyValues.
     """
     facts = Facts(plan)
-    spoken_of = both(facts.domain, sentence_reader(facts.count, IS_TAPE))
-    anywhere = moved(spoken_of, 0, [], 2)
     copies = facts.copies
+    is_tape = moved(sentence_reader(facts.count, IS_TAPE), 0, [], 2)
+    domain = moved(facts.domain, 0, [], 2)
     # Of two copies it does not matter which one is at x if neither is before the other one.
     faults = [facts.neither_before(c, d) for c in copies for d in copies if c <= d]
     faults += [facts.not_before_by_way(c, d) for c in copies for d in copies]
-    found = [some_of(some_of(both(reader, anywhere), 2), 1) for reader in faults]
-    tape = shortest(any_of(facts.count, found))
+    faults = [both(both(reader, is_tape), domain) for reader in faults]
+    tape = shortest(any_of(facts.count, [some_of(some_of(reader, 2), 1) for reader in faults]))
     return None if tape is None else word_of(tape)

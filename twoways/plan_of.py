@@ -6,8 +6,10 @@ from twoways.tapes import END_MARKS
 from twoways.trails import LEFT, STOP
 from twoways.values import least_from
 
-# What is seen, as a bit: the first copy, the second copy, and the first one before the second one.
+# What is seen, as a bit: the first copy, the second copy, and the first one before the second one. The copy that is
+# watched in the set i has the bit 1 << i.
 FIRST_SEEN = 1
+SECOND_SEEN = 2
 IN_ORDER_SEEN = 4
 
 
@@ -159,5 +161,6 @@ def _seen_along(seen, way):
 
 def _seen_after(told, more):
     """Return what is seen of two parts of a way, one after the other."""
-    in_order = (told & 1) & (more >> 1 & 1)
-    return told | more | in_order << 2
+    if told & FIRST_SEEN > 0 and more & SECOND_SEEN > 0:
+        return told | more | IN_ORDER_SEEN
+    return told | more

@@ -35,6 +35,10 @@ class TreeMaker:
         self.nothing = empty_stretch(machine)
         self.pairs = 0
 
+    def begin_count(self):
+        """Count pairs from here on."""
+        self.pairs = 0
+
     def stretch_in(self, tree):
         """Return the kept stretch of the word of a tree."""
         return self.nothing if tree is None else tree.stretch

@@ -65,7 +65,7 @@ def least_from(empty, letters, product, accepting, wide=MOST_VALUES, most=MOST_V
         leaders[0],
         [leader_of[letter] for letter in letters],
         lambda x, y: leaders[behind[x][column[y]]],
-        lambda x: accepted[x],
+        lambda one: accepted[one],
         most,
     )
 
@@ -97,7 +97,14 @@ def least(reader):
     """Return the least reader that accepts the same words."""
     empty, letters, mul, accepted = reader
     many = len(mul)
-    return least_from(empty, letters, lambda x, y: mul[x][y], lambda x: x in accepted, many, many)
+    return least_from(
+        empty,
+        letters,
+        lambda x, y: mul[x][y],
+        lambda one: one in accepted,
+        many,
+        many,
+    )
 
 
 def same_words(first, second):
